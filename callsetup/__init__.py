@@ -1,0 +1,1 @@
+"""Calls set up by messages: transactions that send again, tell once and acknowledge."""
