@@ -8,6 +8,16 @@ from callsetup.transactions import answers
 from tests.helper import answer, begin, octets, receive, reply, request, send, state, tick
 
 
+class Unchanged(list):
+    """A list that fails at each try to change it."""
+
+    def refuse(self, *given, **named):
+        raise AssertionError("what is handed in was changed")
+
+    append = extend = insert = pop = remove = clear = sort = reverse = refuse
+    __setitem__ = __delitem__ = __iadd__ = __imul__ = refuse
+
+
 def some_calls():
     return begin() + send(0, request()) + receive(0, request("INVITE")) + answer(2, 10, reply(486, "INVITE")) + tick(
         600) + state(2) + send(600, octets("x"))
@@ -47,6 +57,13 @@ class Interface(unittest.TestCase):
         calls = some_calls()
         answers(calls)
         self.assertEqual(calls, some_calls())
+
+    def test_what_is_handed_in_is_not_changed_for_a_while_either(self):
+        self.assertEqual(answers(Unchanged(some_calls())), answers(some_calls()))
+
+    def test_a_list_that_serves_twice_answers_the_same(self):
+        calls = some_calls()
+        self.assertEqual(answers(calls), answers(calls))
 
     def test_what_is_given_back_is_ones_own(self):
         calls = some_calls()

@@ -1,8 +1,9 @@
-"""What a message is. tx_send shows it of requests; of replies tx_reply to a transaction that isn't there."""
+"""What a message is. tx_send shows it of requests; of replies tx_reply to a transaction that isn't there; of both
+tx_receive, which tells what is one and passes over what isn't."""
 
 import unittest
 
-from tests.helper import answer, build, headers, last, octets, reply, request, send, sent, via
+from tests.helper import answer, build, headers, last, octets, receive, reply, request, send, sent, told, via
 
 WORD = set(octets("ABCDEFGHIJKLMNOPQRSTUVWXYZabcdefghijklmnopqrstuvwxyz0123456789!%'*+-._`~"))
 VISIBLE = set(range(33, 127))
@@ -13,15 +14,19 @@ EACH_BYTE = [(number, bytes([number]).decode("latin-1")) for number in range(256
 class MessageCase(unittest.TestCase):
     def kept(self, message):
         self.assertEqual(last(send(0, message)), [sent(1, message)])
+        self.assertEqual(last(receive(0, message)), [told(1, message)])
 
     def broken(self, message):
         self.assertEqual(last(send(0, message)), -2)
+        self.assertEqual(last(receive(0, message)), [])
 
     def kept_reply(self, message):
         self.assertEqual(last(answer(1, 0, message)), -3)
+        self.assertEqual(last(receive(0, message)), [told(0, message)])
 
     def broken_reply(self, message):
         self.assertEqual(last(answer(1, 0, message)), -2)
+        self.assertEqual(last(receive(0, message)), [])
 
     def kept_just_if(self, is_kept, message):
         if is_kept:
